@@ -1,0 +1,1 @@
+"""Squaremark: two-dimensional labels with error correction."""
