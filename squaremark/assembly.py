@@ -10,13 +10,7 @@ from squaremark.orientation import decode_any
 def assemble(views):
     """Return the message of a list of labels."""
     _, _, part_count, parts = _read_parts(views)
-    missing = _lost_parts(parts, part_count)
-    if missing:
-        raise MissingParts(tuple(missing))
-    symbols = []
-    for part in range(part_count):
-        symbols.extend(_part_data(parts, part))
-    return decode_symbols(symbols)
+    return join_parts(parts, part_count)
 
 
 def missing_parts(views):
@@ -31,14 +25,30 @@ def inspect_parts(views):
     return side, strength, part_count, sorted(parts)
 
 
+def join_parts(parts, part_count):
+    """Return the message of a dict of the data of each part present."""
+    missing = _lost_parts(parts, part_count)
+    if missing:
+        raise MissingParts(tuple(missing))
+    symbols = []
+    for part in range(part_count):
+        symbols.extend(_part_data(parts, part))
+    return decode_symbols(symbols)
+
+
+def has_wrong_spare(parts, part_count):
+    """Return whether all parts are present beside a spare label that does not hold their sums."""
+    # The sum of all parts and of a spare label that fits them consists of zeros.
+    return len(parts) > part_count and any(sum_data(list(parts.values())))
+
+
 def _read_parts(views):
     """Return the side, the strength, the number of parts, and a dict of the data of each part present."""
     labels = _decode_all(views)
     parts = _collect_parts(labels)
     kind, _, _ = labels[0]
     side, strength, part_count = kind
-    # The sum of all parts and of a spare label that fits them consists of zeros.
-    if len(parts) > part_count and any(sum_data(list(parts.values()))):
+    if has_wrong_spare(parts, part_count):
         raise MismatchedPart(_find_part(labels, part_count))
     return side, strength, part_count, parts
 

@@ -32,7 +32,7 @@ def render_labels(text, *, strength=2, spare=False):
 def decode_label(image):
     """Return the strength, the part number, the number of parts and the data symbols."""
     require_image(image)
-    mask, strength, part, part_count = _decode_header(image)
+    mask, strength, part, part_count = decode_header(image)
     data = _decode_body(read_body(image, mask), len(image), strength)
     return strength, part, part_count, data
 
@@ -43,6 +43,17 @@ def decode_message(image):
     if part_count > 1 or part == part_count:
         raise PartialMessage("the label does not hold a whole message")
     return decode_symbols(data)
+
+
+def decode_header(image):
+    """Return the mask, the strength, the part number and the number of parts that the header tells."""
+    data = decode_block(read_header(image), _HEADER_CHECKS)
+    if data is None:
+        raise DecodeFailed(-1)
+    first, part, part_count = data
+    if first >= 12 or part_count not in _PART_COUNTS or part > part_count:
+        raise DecodeFailed(-1)
+    return first & 3, first // 4 + 1, part, part_count
 
 
 def sum_data(parts):
@@ -89,17 +100,6 @@ def _encode_body(data, side, strength):
     return _join_blocks(blocks)
 
 
-def _decode_header(image):
-    """Return the mask, the strength, the part number and the number of parts."""
-    data = decode_block(read_header(image), _HEADER_CHECKS)
-    if data is None:
-        raise DecodeFailed(-1)
-    first, part, part_count = data
-    if first >= 12 or part_count not in _PART_COUNTS or part > part_count:
-        raise DecodeFailed(-1)
-    return first & 3, first // 4 + 1, part, part_count
-
-
 def _decode_body(body, side, strength):
     blocks = []
     for index, received in enumerate(_split_blocks(body, side)):
@@ -124,4 +124,4 @@ def _join_blocks(blocks):
     """Return the symbols that were assigned to blocks in turn."""
     total = sum([len(block) for block in blocks])
     count = len(blocks)
-    return tuple([blocks[index % count][index // count] for index in range(total)])
+    return tuple([blocks[int(index) % count][index // count] for index in range(total)])

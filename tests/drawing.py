@@ -254,3 +254,17 @@ def noise(side, seed, kinds="#."):
 
 def some_data(side, strength, seed):
     return tuple(number % 16 for number in numbers(len(data_indexes(side, strength)), seed))
+
+
+SMALL = (1, 2, 15, 0, 0, 0)
+
+
+def small_label(part, part_count, data=SMALL, side=10, strength=2):
+    """A label with these data; by default, they are the message 12."""
+    return draw(side, strength, 1, part, part_count, tuple(data))
+
+
+def small_labels(*parts):
+    """The labels of parts with these data, and the spare label."""
+    labels = [small_label(part, len(parts), data) for part, data in enumerate(parts)]
+    return labels + [small_label(len(parts), len(parts), total(parts))]

@@ -7,6 +7,7 @@ from squaremark.assembly import assemble, inspect_parts, missing_parts
 from squaremark.errors import InvalidCount, InvalidSymbols, InvalidView, MismatchedPart, MissingParts
 from squaremark.labels import decode_label, render_labels
 from tests import drawing
+from tests.drawing import SMALL, small_label, small_labels
 
 FUNCTIONS = (assemble, missing_parts, inspect_parts)
 # A message of one to four parts for each strength.
@@ -15,21 +16,10 @@ TEXTS = {
     2: ["7", "ten tins in a tent at noon on site", "12-34" * 13, "1" * 124],
     3: ["", "1 2 3 4 5 6 7 8 9 0 " + "1" * 16, "e" * 73, "0" * 80],
 }
-SMALL = (1, 2, 15, 0, 0, 0)
 
 
 def subsets(items):
     return chain.from_iterable(combinations(items, count) for count in range(1, len(items) + 1))
-
-
-def small_label(part, part_count, data=SMALL, side=10, strength=2):
-    return drawing.draw(side, strength, 1, part, part_count, tuple(data))
-
-
-def small_labels(*parts):
-    """The labels of parts with these data, and the spare label."""
-    labels = [small_label(part, len(parts), data) for part, data in enumerate(parts)]
-    return labels + [small_label(len(parts), len(parts), drawing.total(parts))]
 
 
 class Assembly(unittest.TestCase):

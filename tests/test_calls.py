@@ -5,14 +5,19 @@ import unittest
 from functools import partial
 
 from squaremark import assembly, codewords, encoding, gf16, labels, layout, orientation
+from squaremark import scanner, scripts, sheet_codec, sheets
 from squaremark.errors import (
-    InvalidBlock, InvalidCertificate, InvalidSide, InvalidStrength, InvalidSymbols, InvalidView, MismatchedPart,
+    InvalidBlock, InvalidCertificate, InvalidCount, InvalidPlacement, InvalidSheet, InvalidSide, InvalidStrength,
+    InvalidSymbols, InvalidView, MismatchedPart,
 )
-from tests import drawing
+from tests import drawing, pages
 
 PARTS = drawing.render("1" * 100, 1, True)
 VIEWS = [drawing.view(image, 2 * part + 1) for part, image in enumerate(PARTS)]
 SINGLE = drawing.render("7", 1)[0]
+SHEET = pages.compose(40, 36, [(PARTS[3], 0, 0), (VIEWS[0], 20, 3), (VIEWS[1], 20, 20)])
+SCRIPT = "sheet 30 30\ntext a 7\nstrength 1\nrepeat 2\nplace a 0 3\nmove 0 12\nend"
+OPERATIONS = [("add_view", VIEWS[0]), ("add_view", VIEWS[3]), ("discard", 0), ("add_view", VIEWS[1])]
 DAMAGED = drawing.hide(drawing.flip(SINGLE, [(4, 4), (0, 3)]), [(2, 2), (9, 9)])
 FUNCTIONS = {
     gf16: ["add", "multiply", "divide"],
@@ -24,7 +29,15 @@ FUNCTIONS = {
         "rotate", "mirror", "orientations", "frame_errors", "normalize", "decode_any", "merge", "conflicts",
     ],
     assembly: ["assemble", "missing_parts", "inspect_parts"],
+    sheets: ["compose", "locate", "crop", "scan", "scan_message"],
+    scanner: ["Scanner", "replay"],
+    scripts: ["run_script", "placements", "flatten"],
+    sheet_codec: ["pack_bytes", "unpack_bytes", "encode_sheet", "encoded_length", "decode_sheet"],
 }
+METHODS = [
+    "add_view", "statuses", "message", "merged_view", "discard", "history", "undo", "save", "restore", "checkpoints",
+    "apply_all", "is_busy",
+]
 CALLS = [
     (gf16.add, (9, 12)),
     (gf16.multiply, (7, 12)),
@@ -61,6 +74,23 @@ CALLS = [
     (assembly.assemble, (VIEWS[1:],)),
     (assembly.missing_parts, (VIEWS[:1],)),
     (assembly.inspect_parts, (VIEWS[::-1],)),
+    (sheets.compose, (30, 40, [(PARTS[0], 0, 3), (DAMAGED, 20, 5)])),
+    (sheets.locate, (SHEET,)),
+    (sheets.crop, (SHEET, 20, 3, 16)),
+    (sheets.scan, (SHEET,)),
+    (sheets.scan_message, (SHEET,)),
+    (scripts.run_script, (SCRIPT,)),
+    (scripts.placements, (SCRIPT,)),
+    (scripts.flatten, (SCRIPT,)),
+    (sheet_codec.pack_bytes, ([0, 255, 7],)),
+    (sheet_codec.unpack_bytes, (b"\x00\xff\x07",)),
+    (sheet_codec.encode_sheet, (SHEET,)),
+    (sheet_codec.encoded_length, (SHEET,)),
+    (sheet_codec.decode_sheet, (bytes([10, 12, 11, 200, 233]),)),
+]
+# What a scanner is asked; none of this changes it.
+QUESTIONS = [
+    ("statuses",), ("message",), ("merged_view", 1), ("merged_view", 3), ("history",), ("checkpoints",), ("is_busy",),
 ]
 
 
@@ -79,6 +109,10 @@ class EveryFunction(unittest.TestCase):
         for module, names in FUNCTIONS.items():
             for name in names:
                 self.assertEqual(getattr(module, name).__module__, module.__name__)
+
+    def test_methods_are_defined_in_their_class(self):
+        for name in METHODS:
+            self.assertIn(name, vars(scanner.Scanner))
 
     def test_equal_calls_give_equal_results(self):
         for function, arguments in CALLS:
@@ -130,6 +164,17 @@ class EveryFunction(unittest.TestCase):
             self.assertRaises(MismatchedPart, assembly.inspect_parts, others)
         self.assertEqual((views, others), ([SINGLE, None], [SINGLE, VIEWS[0]]))
 
+    def test_sheets_do_not_keep_their_items(self):
+        items = [(SINGLE, 0, 0)]
+        sheet = sheets.compose(30, 30, items)
+        items.append((SINGLE, 15, 15))
+        self.assertEqual(sheet, pages.compose(30, 30, items[:1]))
+        self.assertEqual(sheets.compose(30, 30, items), pages.compose(30, 30, items))
+        wrong = [(SINGLE, 0, 0), [SINGLE, 15, 15]]
+        for _ in range(2):
+            self.assertRaises(InvalidPlacement, sheets.compose, 30, 30, wrong)
+        self.assertEqual(wrong, [(SINGLE, 0, 0), [SINGLE, 15, 15]])
+
     def test_arguments_may_be_given_by_name(self):
         self.assertEqual(gf16.add(right=9, left=12), 5)
         self.assertEqual(gf16.multiply(right=8, left=2), 3)
@@ -156,6 +201,27 @@ class EveryFunction(unittest.TestCase):
             assembly.inspect_parts,
         ]:
             self.assertEqual(function(views=[SINGLE]), function([SINGLE]))
+        self.assertEqual(sheets.compose(items=[], columns=12, rows=10), pages.blank(10, 12))
+        self.assertEqual(sheets.crop(side=16, column=3, row=20, sheet=SHEET), VIEWS[0])
+        for function in [
+            sheets.locate, sheets.scan, sheets.scan_message, sheet_codec.encode_sheet, sheet_codec.encoded_length,
+        ]:
+            self.assertEqual(function(sheet=SHEET), function(SHEET))
+        for function in FUNCTIONS[scripts]:
+            self.assertEqual(getattr(scripts, function)(source=SCRIPT), getattr(scripts, function)(SCRIPT))
+        self.assertEqual(sheet_codec.pack_bytes(values=[7]), b"\x07")
+        self.assertEqual(sheet_codec.unpack_bytes(data=b"\x07"), [7])
+        self.assertEqual(sheet_codec.decode_sheet(data=sheet_codec.encode_sheet(SHEET)), SHEET)
+        self.assertEqual(scanner.replay(operations=OPERATIONS).history(), OPERATIONS)
+
+    def test_arguments_of_a_scanner_may_be_given_by_name(self):
+        held = scanner.Scanner()
+        self.assertEqual(held.add_view(view=SINGLE), (0, True))
+        held.save(name="a")
+        self.assertEqual(held.merged_view(part=0), SINGLE)
+        self.assertEqual(held.discard(part=0), 1)
+        held.restore(name="a")
+        self.assertEqual(held.apply_all(operations=[("discard", 0)]), [1])
 
     def test_arguments_are_checked_from_left_to_right(self):
         self.assertRaises(InvalidBlock, codewords.check_certificate, (), None, None)
@@ -163,6 +229,60 @@ class EveryFunction(unittest.TestCase):
         self.assertRaises(InvalidCertificate, codewords.check_certificate, (1, 2), 1, None)
         self.assertRaises(InvalidSide, layout.data_capacity, None, None)
         self.assertRaises(InvalidStrength, layout.data_capacity, 10, None)
+        self.assertRaises(InvalidCount, sheets.compose, None, None, None)
+        self.assertRaises(InvalidPlacement, sheets.compose, 10, 10, None)
+        self.assertRaises(InvalidSheet, sheets.crop, None, None, None, None)
+        self.assertRaises(InvalidPlacement, sheets.crop, SHEET, None, None, None)
+
+
+class EveryMethod(unittest.TestCase):
+    def answers(self, held):
+        return [copy.deepcopy(getattr(held, name)(*arguments)) for name, *arguments in QUESTIONS]
+
+    def prepared(self):
+        held = scanner.Scanner()
+        held.save("empty")
+        held.apply_all(copy.deepcopy(OPERATIONS))
+        held.add_view(VIEWS[2])
+        held.save("full")
+        return held
+
+    def test_equal_calls_give_equal_results(self):
+        held = self.prepared()
+        first = self.answers(held)
+        for name, *arguments in QUESTIONS:
+            spoil(getattr(held, name)(*arguments))
+        self.assertEqual(self.answers(held), first)
+        self.assertEqual(self.answers(self.prepared()), first)
+        spoil(held.apply_all([]))
+        self.assertEqual(self.answers(held), first)
+        held.add_view(VIEWS[0])
+        held.restore("full")
+        self.assertEqual(self.answers(held), first)
+        self.assertEqual(first[1], "1" * 100)
+
+    def test_arguments_are_neither_modified_nor_kept(self):
+        operations = list(OPERATIONS)
+        held = scanner.Scanner()
+        results = held.apply_all(operations)
+        again = scanner.replay(operations)
+        self.assertEqual(operations, OPERATIONS)
+        spoil(operations)
+        spoil(results)
+        self.assertEqual((held.history(), again.history()), (OPERATIONS, OPERATIONS))
+        held.undo()
+        self.assertEqual(again.history(), OPERATIONS)
+
+    def test_returned_histories_may_be_modified(self):
+        held = self.prepared()
+        history = held.history()
+        spoil(history)
+        self.assertEqual(held.history(), OPERATIONS + [("add_view", VIEWS[2])])
+        while held.undo():
+            spoil(held.history())
+        self.assertEqual(held.statuses(), [])
+        held.restore("full")
+        self.assertEqual(held.history(), OPERATIONS + [("add_view", VIEWS[2])])
 
 
 if __name__ == "__main__":
